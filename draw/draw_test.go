@@ -207,10 +207,10 @@ func TestTurnIsBrief(t *testing.T) {
 		want     string
 	}{
 		{screen("abc/def", 0, 0), screen("Abc/def", 0, 1), "A"},
-		{screen("abc/def", 0, 0), screen("abc/def", 1, 0), "\n"},
-		{screen("abc/def", 1, 3), screen("abc/def", 1, 0), "\r"},
-		{screen("abc/def", 1, 3), screen("abc/def", 1, 2), "\x1b[C"},
-		{screen("abc/def", 1, 3), screen("abc/def", 1, 1), "\b"},
+		{screen("abc/def", 0, 0), screen("abc/def", 1, 0), "\x1b[2;1H"},
+		{screen("abc/def", 1, 3), screen("abc/def", 1, 0), "\x1b[2;1H"},
+		{screen("abc/def", 1, 3), screen("abc/def", 1, 2), "\x1b[2;3H"},
+		{screen("abc/def", 1, 3), screen("abc/def", 1, 1), "\x1b[2;2H"},
 		{screen("____/____", 0, 0), screen("____/_ab_", 1, 3), "\x1b[2;2Hab"},
 		{screen("____/____", 0, 1), screen("_12_/____", 0, 1), "\x1bPab\x1b\\"},
 		{screen("abcd/efgh", 0, 2), screen("ab__/efgh", 0, 2), "\x1b[K"},

@@ -27,7 +27,7 @@ func (p *pen) write(s string) {
 
 // show turns the pen's screen into a good one of the same sides.
 //
-// That takes less than MaxQueue, as ways within a row are short: in each of 10 rows at most a way there (8 bytes), an erasure (4), a picture (a way within the row, 5, and 28), and 24 letters (such a way, 7 for ink and Bold, and itself: 13); and the last way (8).
+// That takes less than MaxQueue: in each of 10 rows at most an erasure (a move, 8 bytes, and 4), a picture (a move and 28), and letters (7 for ink and Bold, and itself) and moves to them, 8 bytes each, no more than 25 of both, as each move but the first one skips a cell; and the last move (8).
 func (p *pen) show(to api.Grid) {
 	for row := range to.High {
 		p.showRow(row, cells(to, row))
@@ -140,63 +140,14 @@ func inkNumbers(g api.Grid, c api.Cell) string {
 	return strings.Join(numbers, ";")
 }
 
-// move leads the cursor to a cell; where it already is, by no bytes.
+// move leads the cursor to a cell; where it already is, by no bytes. It tells row and column, whatever the way: so it hangs neither on the rows that scroll nor on being behind the last column.
 func (p *pen) move(row, col int) {
 	g := &p.screen
-	p.write(shorter(upDown(*g, row)+sideways(*g, col), jump(row, col)))
+	if g.Row == row && g.Col == col {
+		return
+	}
+	p.write(command + strconv.Itoa(row+1) + ";" + strconv.Itoa(col+1) + "H")
 	g.Row, g.Col = row, col
-}
-
-func jump(row, col int) string {
-	if col == 0 {
-		return command + times(row+1) + "H"
-	}
-	return command + times(row+1) + ";" + times(col+1) + "H"
-}
-
-func upDown(g api.Grid, row int) string {
-	switch {
-	case row == g.Row+1 && g.Row != g.Bottom-1: // in the last row that scrolls it would scroll
-		return "\n"
-	case row > g.Row:
-		return command + times(row-g.Row) + "B"
-	case row < g.Row:
-		return command + times(g.Row-row) + "A"
-	}
-	return ""
-}
-
-func sideways(g api.Grid, col int) string {
-	// Behind the last column the cursor goes left as from the last one.
-	here := min(g.Col, g.Wide-1)
-	switch {
-	case col == g.Col:
-		return ""
-	case col == 0:
-		return "\r"
-	case col == here-1:
-		return "\b"
-	case col < here:
-		return command + times(here-col) + "D"
-	}
-	// From behind the last column a step to the right leads back to it.
-	return command + times(max(col-here, 1)) + "C"
-}
-
-// times is the text of a number that stands for 1 if it is not written.
-func times(n int) string {
-	if n == 1 {
-		return ""
-	}
-	return strconv.Itoa(n)
-}
-
-// shorter is one of two texts that lead to the same; the first one, if none is.
-func shorter(a, b string) string {
-	if len(b) < len(a) {
-		return b
-	}
-	return a
 }
 
 // cells are those of a row, cut out of the screen's list.
